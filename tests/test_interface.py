@@ -1,0 +1,39 @@
+"""The interface: each name is defined in its file, with its arguments and their values."""
+
+import importlib
+import inspect
+import unittest
+
+# For each file, each function with its arguments, and the values of those that need not be handed in.
+FUNCTIONS = {
+    "kinds": {"is_number": "thing", "is_word": "thing", "is_operand": "thing", "is_objects": "thing"},
+    "faces": {"cells_in": "code", "is_address": "code thing", "face": "code address", "is_sure": "code address",
+              "can_fault": "address"},
+    "codes": {"is_code": "thing", "is_row": "code thing", "is_end": "code name thing", "routines_of": "code",
+              "names_in": "code", "places_in": "code", "blocks_of": "code name", "is_place": "code thing",
+              "row_at": "code place"},
+    "operands": {"is_start": "code thing", "worth": "operand names=None", "cell_by": "code address names=None"},
+    "lines": {"shown_row": "row", "shown_code": "code", "shown_start": "start", "shown_place": "place"},
+}
+
+
+class TestInterface(unittest.TestCase):
+    def test_functions_are_defined_in_their_files(self):
+        for name in FUNCTIONS:
+            module = importlib.import_module("storeways." + name)
+            for function in FUNCTIONS[name]:
+                self.assertTrue(inspect.isfunction(getattr(module, function)), function)
+                self.assertEqual(getattr(module, function).__module__, "storeways." + name)
+
+    def test_arguments(self):
+        for name in FUNCTIONS:
+            module = importlib.import_module("storeways." + name)
+            for function in FUNCTIONS[name]:
+                told = inspect.signature(getattr(module, function)).parameters.values()
+                self.assertEqual(" ".join([str(argument) for argument in told]), FUNCTIONS[name][function], function)
+                for argument in told:
+                    self.assertEqual(argument.kind, argument.POSITIONAL_OR_KEYWORD, function)
+
+
+if __name__ == "__main__":
+    unittest.main()
