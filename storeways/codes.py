@@ -22,6 +22,13 @@ END_FORMS = {
     "back": (),
 }
 
+# Which thing of a ROW is its ADDRESS.
+ADDRESS_AT = {
+    "load": 2,
+    "store": 1,
+    "touch": 1,
+}
+
 
 def fits(code, many, kind, thing):
     """Whether any thing may stand where this kind is due in CODE, in a routine of so many blocks."""
@@ -119,6 +126,11 @@ def operands_in(row):
         elif kind in ("name", "operand"):
             found.append(thing)
     return found
+
+
+def address_in(row):
+    """The ADDRESS of a ROW, None of one that has none, and of an END."""
+    return row[ADDRESS_AT[row[0]]] if row[0] in ADDRESS_AT else None
 
 
 def names_in(code):

@@ -24,18 +24,26 @@ def is_start(code, thing):
     return is_pair(thing) and are_start_names(thing[0]) and are_start_cells(code, thing[1])
 
 
+def worth_in(operand, table):
+    """What an OPERAND has by a dict of NAMES; one that isn't there has 0."""
+    return operand if is_number(operand) else table.get(operand, 0)
+
+
 def worth(operand, names=None):
     """The WORTH of an OPERAND by names; a NAME that isn't there has 0."""
-    if is_number(operand):
-        return operand
-    return dict(names or ()).get(operand, 0)
+    return worth_in(operand, dict(names or ()))
+
+
+def cell_in(code, address, table):
+    """The CELL that an ADDRESS of CODE is by a dict of NAMES, None where there is none."""
+    objects, pick, index = address
+    at = worth_in(pick, table)
+    if not 0 <= at < len(objects):
+        return None
+    cell = (objects[at], worth_in(index, table))
+    return cell if is_cell(code, cell) else None
 
 
 def cell_by(code, address, names=None):
     """The CELL that an ADDRESS of CODE is by names, None where there is none."""
-    objects, pick, index = address
-    at = worth(pick, names)
-    if not 0 <= at < len(objects):
-        return None
-    cell = (objects[at], worth(index, names))
-    return cell if is_cell(code, cell) else None
+    return cell_in(code, address, dict(names or ()))

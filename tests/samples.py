@@ -1,6 +1,7 @@
 """CODE and things that several tests hand in, and how tests compare."""
 
 import copy
+import random
 import unittest
 
 MAIN = (
@@ -54,6 +55,14 @@ class Case(unittest.TestCase):
                 self.assertIs(function(*case), want)
                 self.same(case, kept)
 
+    def untouched(self, function, *things):
+        """What the function tells of these things, told twice alike, and none of them changed."""
+        kept = copy.deepcopy(things)
+        told = function(*things)
+        self.same(function(*things), told)
+        self.same(things, kept)
+        return told
+
     def refused(self, error, fields, function, *things, **named):
         """It is refused with just this error, whose fields are the very things."""
         with self.assertRaises(error) as caught:
@@ -61,6 +70,70 @@ class Case(unittest.TestCase):
         self.assertIs(caught.exception.__class__, error)
         for field in fields:
             self.assertIs(getattr(caught.exception, field), fields[field])
+
+
+def block(*rows):
+    """A BLOCK of these ROWS, the last of them its END."""
+    return (rows[:-1], rows[-1])
+
+
+def code_of(*main, **routines):
+    """CODE with the sample's OBJECTS, of these blocks of main and of the other routines."""
+    return (OBJECTS, tuple(sorted({**routines, "main": main}.items())))
+
+
+def some_address(chance):
+    """An ADDRESS of the sample's OBJECTS."""
+    objects = tuple(chance.sample(("a", "b", "c"), chance.choice((1, 1, 2, 3))))
+    index = chance.choice((0, 0, "i", "j") + ((1,) if "c" not in objects else ()))
+    return (objects, chance.choice((0, len(objects) - 1, "p", "j")), index)
+
+
+def some_row(chance, callable_ones):
+    """A ROW; one that calls where there is somebody to call."""
+    operand = chance.choice((0, 1, 2, -1, "i", "j", "p", "x"))
+    name = chance.choice(("i", "j", "p", "x"))
+    word = chance.choice(("load", "store", "store", "touch", "set", "tell", "need", "call", "call"))
+    sign = chance.choice("+-*<")
+    # A product by a NAME would come to be far too long in a loop.
+    other = chance.choice((0, 1, 2, -1) if sign == "*" else (0, 1, 2, "i", "x"))
+    if word == "call" and callable_ones:
+        return ("call", chance.choice(callable_ones))
+    return {
+        "load": ("load", name, some_address(chance)),
+        "store": ("store", some_address(chance), operand),
+        "touch": ("touch", some_address(chance)),
+        "set": ("set", name, sign, operand, other),
+        "need": ("need", chance.choice((1, 1, operand))),
+    }.get(word, ("tell", operand))
+
+
+def some_end(chance, many):
+    """An END of a routine of so many blocks."""
+    one, other = chance.randrange(many), chance.randrange(many)
+    return chance.choice((("go", one), ("if", chance.choice((0, 1, "i", "x")), one, other), ("back",), ("back",)))
+
+
+def some_code(seed, most_rows=3):
+    """CODE made by a seed: the same for the same one."""
+    chance = random.Random(seed)
+    others = chance.choice(((), ("sub",), ("sub", "zub"), ("aub", "sub")))
+    routines = []
+    for name in sorted(("main", *others)):
+        many = chance.choice((1, 2, 3, 4))
+        routines.append((name, tuple([
+            (tuple([some_row(chance, others) for _ in range(chance.randrange(most_rows + 1))]), some_end(chance, many))
+            for _ in range(many)])))
+    return (OBJECTS, tuple(routines))
+
+
+def some_start(seed):
+    """A START of such CODE, made by a seed."""
+    chance = random.Random(seed)
+    names = tuple([(name, chance.choice((0, 1, 1, 2, -1))) for name in ("i", "j", "p", "x") if chance.random() < 0.7])
+    cells = tuple([((word, at), chance.choice((0, 1, 2, -3))) for word, size in OBJECTS for at in range(size)
+                   if chance.random() < 0.6])
+    return (names, cells)
 
 
 def exchanged(things, at, thing):

@@ -13,6 +13,12 @@ FUNCTIONS = {
               "names_in": "code", "places_in": "code", "blocks_of": "code name", "is_place": "code thing",
               "row_at": "code place"},
     "operands": {"is_start": "code thing", "worth": "operand names=None", "cell_by": "code address names=None"},
+    "graphs": {"nexts": "code name block", "befores": "code name block", "reached": "code name"},
+    "running": {"run": "code start=None fuel=100", "trail": "code start=None fuel=100"},
+    "waychecker": {"lets_way": "code thing", "state_of": "code thing", "shows": "code thing"},
+    "freeing": {"goes_on": "code thing", "met_places": "code", "way_to": "code place"},
+    "turnings": {"turned": "code turning"},
+    "readings": {"read_row": "text line=0", "read_code": "text", "read_start": "text", "read_place": "text"},
     "lines": {"shown_row": "row", "shown_code": "code", "shown_start": "start", "shown_place": "place"},
 }
 

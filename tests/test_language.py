@@ -96,6 +96,22 @@ class TestLanguage(unittest.TestCase):
                 self.assertTrue(isinstance(node, ast.Name) and isinstance(node.ctx, ast.Load), f"{where} {name}")
                 self.assertIn(name, ALLOWED, where)
 
+    def test_no_variable_is_called_like_an_import_or_a_class(self):
+        for name, tree in self.trees.items():
+            taken = {what for module, what in imports(tree)}
+            taken |= {node.name for node in tree.body if isinstance(node, ast.ClassDef)}
+            for node in ast.walk(tree):
+                if isinstance(node, ast.arg):
+                    self.assertNotIn(node.arg, taken, f"{name}.py:{node.lineno}")
+                if isinstance(node, ast.Name) and isinstance(node.ctx, ast.Store):
+                    self.assertNotIn(node.id, taken, f"{name}.py:{node.lineno}")
+
+    def test_no_name_is_a_method_and_an_attribute(self):
+        methods = {method.name for where, node in self.nodes(ast.ClassDef) for method in node.body if isinstance(method, ast.FunctionDef)}
+        for where, node in self.nodes(ast.Attribute):
+            if isinstance(node.ctx, ast.Store):
+                self.assertNotIn(node.attr, methods, where)
+
     def test_methods(self):
         own = {node.name for where, node in self.nodes(ast.FunctionDef)}
         for where, node in self.nodes(ast.Call):
