@@ -170,3 +170,13 @@ def row_at(code, place):
     name, block, row = place
     rows, end = blocks_of(code, name)[block]
     return end if row == len(rows) else rows[row]
+
+
+def places_with(code, word):
+    """The PLACES of CODE at which ROWS or ENDS of this word stand, rising."""
+    return [place for place in places_in(code) if row_at(code, place)[0] == word]
+
+
+def backs_of(code, name):
+    """The PLACES of the "back" ENDS of a routine of CODE, rising."""
+    return [(name, block, len(rows)) for block, (rows, end) in enumerate(blocks_of(code, name)) if end[0] == "back"]

@@ -4,7 +4,7 @@ A hop is (place, choice, routine): a STEP, and, where routine is a WORD, a whole
 So a way through a routine is known once, however often and deep it is called.
 """
 
-from storeways.codes import END_FORMS, address_in, blocks_of, is_place, routines_of, row_at
+from storeways.codes import END_FORMS, address_in, backs_of, is_place, routines_of, row_at
 from storeways.errors import NoPlace
 from storeways.faces import face
 from storeways.graphs import goals
@@ -69,8 +69,7 @@ def nearest_by_hops(code, first, through, enters):
 def nearest_back(code, name, through):
     """What nearest_by_hops finds within a routine, and its "back" PLACE with the fewest STEPS, None without one."""
     found = nearest_by_hops(code, (name, 0, 0), through, False)
-    places = [(name, block, len(rows)) for block, (rows, end) in enumerate(blocks_of(code, name)) if end[0] == "back"]
-    lengths = [(found[place][0], place) for place in places if place in found]
+    lengths = [(found[place][0], place) for place in backs_of(code, name) if place in found]
     return (found, min(lengths)[1] if lengths else None)
 
 

@@ -1,6 +1,6 @@
-"""Which blocks of a routine GO TO which, and which are REACHED."""
+"""Which blocks of a routine GO TO which, which are REACHED, and how a PLACE goes on within its routine."""
 
-from storeways.codes import blocks_of
+from storeways.codes import END_FORMS, blocks_of, row_at
 
 
 def goals(end):
@@ -23,13 +23,30 @@ def befores(code, name, block):
     return tuple([other for other, (rows, end) in enumerate(blocks_of(code, name)) if block in goals(end)])
 
 
-def reached(code, name):
-    """All REACHED blocks of a routine, rising."""
-    found = {0: True}
+def led_around(code, name, over):
+    """Each block to which a BLOCK WAY without over leads, with the block ahead on one such; None as over bars none."""
+    if over == 0:
+        return {}
+    ahead = {0: None}
     todo = [0]
     while todo:
-        for block in nexts(code, name, todo.pop()):
-            if block not in found:
-                found[block] = True
-                todo.append(block)
-    return tuple(sorted(found))
+        block = todo.pop()
+        for goal in nexts(code, name, block):
+            if goal != over and goal not in ahead:
+                ahead[goal] = block
+                todo.append(goal)
+    return ahead
+
+
+def reached(code, name):
+    """All REACHED blocks of a routine, rising."""
+    return tuple(sorted(led_around(code, name, None)))
+
+
+def onwards(code, place):
+    """The PLACES of its routine to which a PLACE goes on by itself; behind a "call" where that comes back."""
+    name, block, at = place
+    row = row_at(code, place)
+    if row[0] in END_FORMS:
+        return [(name, goal, 0) for goal in goals(row)]
+    return [(name, block, at + 1)]

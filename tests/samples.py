@@ -20,6 +20,7 @@ SUB = (
 OBJECTS = (("a", 3), ("b", 2), ("c", 1))
 CODE = (OBJECTS, (("main", MAIN), ("sub", SUB)))
 
+BACK = ("back",)
 LEAST = ((("a", 1),), (("main", (((), ("back",)),)),))
 
 # Things that are nothing but themselves: no look takes one of them for something of its kind.
@@ -80,6 +81,11 @@ def block(*rows):
 def code_of(*main, **routines):
     """CODE with the sample's OBJECTS, of these blocks of main and of the other routines."""
     return (OBJECTS, tuple(sorted({**routines, "main": main}.items())))
+
+
+def ends_only(*ends, rows=()):
+    """CODE whose main has blocks with these ENDS, each with the same ROWS."""
+    return code_of(*[(rows, end) for end in ends], sub=(block(("go", 0)),))
 
 
 def some_address(chance):
@@ -149,3 +155,34 @@ def with_main(*blocks):
 def with_row(row):
     """CODE like the sample, but that main is of this row alone."""
     return with_main(((row,), ("back",)))
+
+
+def busy_end(chance, block, many):
+    """An END of this block by which most of so many are come to: the last one is a "back"."""
+    if block == many - 1:
+        return ("back",)
+    goal = chance.randrange(many)
+    return chance.choice((("if", "x", block + 1, goal), ("if", "x", goal, block + 1), ("go", block + 1), ("go", goal)))
+
+
+def busy_code(seed, most_blocks=4):
+    """CODE made by a seed, of few CELLS, much of it met: branches, loops, calls in calls and in a ring."""
+    chance = random.Random(seed)
+    objects = (("a", 2), ("c", 1))
+    others = chance.choice((("sub",), ("sub", "zub"), ("aub", "sub", "zub")))
+
+    def row():
+        picked = chance.choice((("a",), ("a",), ("c",), ("a", "c")))
+        address = (picked, chance.choice((0, len(picked) - 1, "p")), chance.choice((0, 0, "i")))
+        name = chance.choice(("x", "i"))
+        return chance.choice((
+            ("load", name, address), ("load", name, address), ("store", address, 1), ("store", address, 1),
+            ("call", chance.choice(others)), ("call", chance.choice(others)), ("set", name, "+", name, 1), ("tell", 1)))
+
+    routines = []
+    for name in sorted(("main", *others)):
+        many = chance.randrange(1, most_blocks + 1)
+        routines.append((name, tuple([
+            (tuple([row() for _ in range(chance.choice((0, 1, 1, 2, 3)))]), busy_end(chance, number, many))
+            for number in range(many)])))
+    return (objects, tuple(routines))

@@ -4,14 +4,7 @@ import unittest
 
 from storeways.codes import blocks_of, routines_of
 from storeways.graphs import befores, nexts, reached
-from tests.samples import CODE, LEAST, Case, block, code_of, some_code
-
-BACK = ("back",)
-
-
-def ends_only(*ends, rows=()):
-    """CODE whose main has blocks with these ENDS, each with the same ROWS."""
-    return code_of(*[(rows, end) for end in ends], sub=(block(("go", 0)),))
+from tests.samples import BACK, CODE, LEAST, Case, ends_only, some_code
 
 
 class TestGraphs(Case):
@@ -61,6 +54,8 @@ class TestGraphs(Case):
         ends = [("if", "x", 12, 11)] + [("go", number) for number in range(10)] + [BACK, ("if", "x", 10, 2)]
         self.same(reached(ends_only(*ends), "main"), tuple(range(13)))
         self.same(nexts(ends_only(*ends), "main", 0), (11, 12))
+        self.same(nexts(ends_only(("if", "x", 8, 1), *[BACK] * 8), "main", 0), (1, 8))
+        self.same(nexts(ends_only(("if", "x", 1, 8), *[BACK] * 8), "main", 0), (1, 8))
 
     def test_rows_turn_nothing(self):
         ends = (("if", "x", 2, 1), ("go", 0), BACK, ("go", 3))
