@@ -172,6 +172,11 @@ def row_at(code, place):
     return end if row == len(rows) else rows[row]
 
 
+def is_place_of(code, word, thing):
+    """Whether any thing is a PLACE of CODE at which a ROW or an END of this word stands."""
+    return is_place(code, thing) and row_at(code, thing)[0] == word
+
+
 def places_with(code, word):
     """The PLACES of CODE at which ROWS or ENDS of this word stand, rising."""
     return [place for place in places_in(code) if row_at(code, place)[0] == word]

@@ -4,6 +4,8 @@ import copy
 import random
 import unittest
 
+from storeways.errors import NoPaper
+
 MAIN = (
     ((("load", "x", (("a",), 0, "i")),
       ("store", (("a", "b"), "p", 1), -7),
@@ -39,6 +41,14 @@ def alike(one, other):
     return one == other
 
 
+def said(function, *things):
+    """What a checker says: what it tells, or the word and the number of its refusal."""
+    try:
+        return function(*things)
+    except NoPaper as refusal:
+        return (refusal.word, refusal.at)
+
+
 class Case(unittest.TestCase):
     """A test case that holds True and 1 apart."""
 
@@ -71,6 +81,14 @@ class Case(unittest.TestCase):
         self.assertIs(caught.exception.__class__, error)
         for field in fields:
             self.assertIs(getattr(caught.exception, field), fields[field])
+
+    def no_paper(self, word, at, function, *things):
+        """The checker doesn't let the last of these things by, with this word and this number or PLACE."""
+        with self.subTest(thing=things[-1]):
+            with self.assertRaises(NoPaper) as caught:
+                function(*things)
+            self.assertIs(caught.exception.__class__, NoPaper)
+            self.same((caught.exception.word, caught.exception.at), (word, at))
 
 
 def block(*rows):

@@ -5,20 +5,11 @@ import unittest
 
 from storeways.domchecker import lets_around, lets_fence
 from storeways.dominance import dominates
-from storeways.errors import NoPaper
-from tests.samples import BACK, CODE, LEAST, STRANGE, Case, ends_only
+from tests.samples import BACK, CODE, LEAST, STRANGE, Case, ends_only, said
 
 MEET = ends_only(("if", "x", 1, 2), ("go", 3), ("go", 3), BACK)
 ROW = ends_only(("go", 1), ("go", 2), ("if", "x", 3, 2), ("go", 0))
 LOST = ends_only(("go", 1), BACK, ("if", "x", 1, 3), ("go", 2))
-
-
-def said(function, *things):
-    """What a checker says: True, or the word and the number of its refusal."""
-    try:
-        return function(*things)
-    except NoPaper as refusal:
-        return (refusal.word, refusal.at)
 
 
 class TestCase(Case):
@@ -29,11 +20,7 @@ class TestCase(Case):
     def refuses(self, function, code, over, under, *cases, name="main"):
         """Each case is (thing, word, at)."""
         for thing, word, at in cases:
-            with self.subTest(thing=thing):
-                with self.assertRaises(NoPaper) as caught:
-                    function(code, name, over, under, thing)
-                self.assertIs(caught.exception.__class__, NoPaper)
-                self.same((caught.exception.word, caught.exception.at), (word, at))
+            self.no_paper(word, at, function, code, name, over, under, thing)
 
 
 class TestAround(TestCase):

@@ -2,8 +2,8 @@
 
 from storeways.codes import row_at
 from storeways.faces import face
-from storeways.freeing import choices_of
-from storeways.waychecker import FIRST, led_to
+from storeways.freeing import choices_of, goes_on
+from storeways.waychecker import FIRST, led_to, lets_way, shows, state_of
 
 DEEPEST = 5
 
@@ -89,3 +89,23 @@ def tried_keeps(code, routine, name, cell, ahead):
         if not calls:
             found[place] = fact and found.get(place, True)
     return found
+
+
+def shown_by_ways(code, longest):
+    """All (read, CELL, source) that FREE WAYS of at most so many STEPS SHOW, each gone on from () STEP by STEP."""
+    found = set()
+    seen = set()
+    ways = [()]
+    for _ in range(longest):
+        newer = []
+        for way in ways:
+            for step in goes_on(code, way):
+                longer = (*way, step)
+                if row_at(code, step[0])[0] == "load":
+                    found.add((*shows(code, longer), step[1]))
+                state = (state_of(code, longer), lets_way(code, longer))
+                if state not in seen:
+                    seen.add(state)
+                    newer.append(longer)
+        ways = newer
+    return {(read, cell, source) for read, source, cell in found}

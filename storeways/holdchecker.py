@@ -1,0 +1,76 @@
+"""HOLD TABLES looked at."""
+
+from storeways.codes import is_place, places_in, places_with, routines_of, row_at
+from storeways.errors import NoPaper
+from storeways.holding import flows, holds_at
+from storeways.kinds import is_pair
+
+
+def is_point(code, place, thing):
+    """Whether any thing is the entry of this PLACE; kinds are asked first, as Python takes True for a 1."""
+    if not isinstance(thing, tuple) or len(thing) != 4:
+        return False
+    return is_place(code, thing[0]) and thing[0] == place and all([isinstance(part, bool) for part in thing[1:]])
+
+
+def is_begin(name, thing):
+    """Whether any thing is the entry of this routine."""
+    return is_pair(thing) and thing[0] == name and isinstance(thing[1], bool)
+
+
+def look_at_entries(word, due, entries, fits):
+    """Refuses the first entry that doesn't fit to the one of those due, isn't due, or is lacking."""
+    for k, (one, entry) in enumerate(zip(due, entries)):
+        if not fits(one, entry):
+            raise NoPaper(word, k)
+    if len(entries) != len(due):
+        raise NoPaper(word, min(len(entries), len(due)))
+
+
+def is_first_as_told(points, place):
+    """Whether a PLACE, where it is the first one of its routine, has met and found as they have to be there."""
+    met, kept, found = points[place]
+    if place[1:] != (0, 0):
+        return True
+    return not found if met else place[0] != "main"
+
+
+def is_flow_as_told(code, name, cell, points, place):
+    """Whether each PLACE to which a met one goes on has met, and no truth that doesn't come to it."""
+    if not points[place][0]:
+        return True
+    for goal, kept, found in flows(code, name, cell, points, place):
+        goal_met, goal_kept, goal_found = points[goal]
+        if not goal_met or (goal_kept and not kept) or (goal_found and not found):
+            return False
+    return True
+
+
+def is_call_as_told(code, points, begun, place):
+    """Whether the routine of a "call" has met and begins as they have to be by this "call"."""
+    called = row_at(code, place)[1]
+    if not points[place][0]:
+        return True
+    return points[(called, 0, 0)][0] and (holds_at(points, begun, place) or not begun[called])
+
+
+def lets_holds(code, name, cell, thing):
+    """True, where any thing is a CLOSED HOLD TABLE of a NAME and a CELL."""
+    if not is_pair(thing) or not all([isinstance(part, tuple) for part in thing]):
+        raise NoPaper("shape", -1)
+    places = places_in(code)
+    look_at_entries("point", places, thing[0], lambda place, entry: is_point(code, place, entry))
+    look_at_entries("begin", routines_of(code), thing[1], is_begin)
+    points = {entry[0]: entry[1:] for entry in thing[0]}
+    begun = {routine: truth for routine, truth in thing[1]}
+    for place in places:
+        if not is_first_as_told(points, place):
+            raise NoPaper("first", place)
+        if not is_flow_as_told(code, name, cell, points, place):
+            raise NoPaper("flow", place)
+    if begun["main"]:
+        raise NoPaper("main", -1)
+    for place in places_with(code, "call"):
+        if not is_call_as_told(code, points, begun, place):
+            raise NoPaper("call", place)
+    return True
