@@ -18,9 +18,9 @@ def nearest(code, name, block):
     """The NEAREST block of one of a routine, None where it has none."""
     if block not in reached(code, name):
         return None
-    others = [over for over in dominators(code, name, block) if over != block]
-    for one in others:
-        if all([dominates(code, name, other, one) for other in others]):
+    around = {over: led_around(code, name, over) for over in dominators(code, name, block) if over != block}
+    for one in around:
+        if all([one not in around[other] for other in around]):
             return one
     return None
 
@@ -28,7 +28,8 @@ def nearest(code, name, block):
 def frontier(code, name, block):
     """The FRONTIER of a block of a routine, rising."""
     # One that isn't REACHED DOMINATES none of the REACHED ones, so nothing is in its FRONTIER.
-    under = [other for other in reached(code, name) if dominates(code, name, block, other)]
+    around = led_around(code, name, block)
+    under = [other for other in reached(code, name) if other not in around]
     behind = [goal for other in under for goal in nexts(code, name, other)]
     return tuple(sorted(set([goal for goal in behind if goal == block or goal not in under])))
 

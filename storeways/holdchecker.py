@@ -59,7 +59,7 @@ def lets_holds(code, name, cell, thing):
     if not is_pair(thing) or not all([isinstance(part, tuple) for part in thing]):
         raise NoPaper("shape", -1)
     places = places_in(code)
-    look_at_entries("point", places, thing[0], lambda place, entry: is_point(code, place, entry))
+    look_at_entries("point", places, thing[0], lambda due, entry: is_point(code, due, entry))
     look_at_entries("begin", routines_of(code), thing[1], is_begin)
     points = {entry[0]: entry[1:] for entry in thing[0]}
     begun = {routine: truth for routine, truth in thing[1]}

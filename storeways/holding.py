@@ -64,11 +64,11 @@ def settled_points(code, name, cell):
 def settled_begun(code, points):
     """The most truths of begins by these points."""
     begun = {routine: routine != "main" for routine in routines_of(code)}
-    calls = [place for place in places_with(code, "call") if points[place][0]]
     changed = True
     while changed:
         changed = False
-        for place in calls:
+        # One that isn't met takes nothing back: it has kept and found True.
+        for place in places_with(code, "call"):
             called = row_at(code, place)[1]
             if begun[called] and not holds_at(points, begun, place):
                 begun[called] = False

@@ -31,12 +31,12 @@ def versions_of(code, name):
     return tuple(sorted(found))
 
 
-def version_at_first(code, name, block, merged):
-    """The VERSION that is NOW at the first PLACE of a REACHED block; merged are the MERGED ones."""
+def version_at_first(code, name, block, merged, nearests):
+    """The VERSION that is NOW at the first PLACE of a block, by the MERGED blocks and the NEAREST ones of all."""
     while block not in merged:
         if block == 0:
             return BEGIN
-        block = nearest(code, name, block)
+        block = nearests[block]
         given = given_in(code, name, block)
         if given:
             return given[-1]
@@ -46,7 +46,8 @@ def version_at_first(code, name, block, merged):
 def versions_at_firsts(code, name):
     """Of each REACHED block of a routine the VERSION that is NOW at its first PLACE."""
     merged = merged_blocks(code, name)
-    return {block: version_at_first(code, name, block, merged) for block in reached(code, name)}
+    nearests = {block: nearest(code, name, block) for block in reached(code, name)}
+    return {block: version_at_first(code, name, block, merged, nearests) for block in nearests}
 
 
 def version_now(code, place, firsts):

@@ -96,7 +96,7 @@ def walked_beyond(memory, place, cell):
     through = walks_through(memory, cell)
     calls = memory.met_among(places_with(memory.code, "call"))
     found = {}
-    seen = {"main": True}
+    seen = {}
     todo = [place]
     while todo:
         name = todo[-1][0]

@@ -39,6 +39,9 @@ def merged(number):
     return ("merge", number)
 
 
+MAIN_STORE = stored(0, 1)
+
+
 class TestVersions(Case):
     def told(self, code, merged_ones, versions, name="main"):
         self.same(self.untouched(merged_blocks, code, name), merged_ones)
@@ -193,6 +196,10 @@ class TestParts(Case):
             self.refused(NoPlace, {"place": thing}, parts_of, TWICE, "main", thing)
         for thing in (stored(1, 0), merged(1)):
             self.refused(NoPlace, {"place": thing}, parts_of, TWICE, "sub", thing)
+        for thing in (("load", ("main", 0, 0)), ("if", ("main", 0, 4)), ("back", ("main", 2, 0)), ("tell", ("main", 1, 1)), stored(0, 1, "sub"), called(0, 0, "sub")):
+            self.refused(NoPlace, {"place": thing}, parts_of, CODE, "main", thing)
+        self.refused(NoPlace, {"place": MAIN_STORE}, parts_of, CODE, "sub", MAIN_STORE)
+        self.same(parts_of(CODE, "main", MAIN_STORE), (merged(0),))
         self.same(parts_of(TWICE, "sub", BEGIN), ())
         self.same(parts_of(ROUND, "main", merged(0)), (BEGIN, stored(1, 0)))
         thing = merged(False)
