@@ -16,10 +16,10 @@ def entering(code, points):
     todo = ["main"]
     while todo:
         name = todo.pop()
-        for place in calls:
+        for place in [call for call in calls if call[0] == name]:
             called = row_at(code, place)[1]
             comes = list(put_behind(points[place], found[name]))
-            if place[0] == name and not all([source in found[called] for source in comes]):
+            if not all([source in found[called] for source in comes]):
                 for source in comes:
                     found[called][source] = True
                 todo.append(called)

@@ -99,8 +99,9 @@ def walked_beyond(memory, place, cell):
     seen = {}
     todo = [place]
     while todo:
-        name = todo[-1][0]
-        comes = walk(memory, name, [memory.now_at(todo.pop())], cell, through)
+        here = todo.pop()
+        name = here[0]
+        comes = walk(memory, name, [memory.now_at(here)], cell, through)
         for source in comes:
             if source is not None or name == "main":
                 found[source] = True
