@@ -1,7 +1,7 @@
 """CODE: whether a thing is CODE, a ROW, an END, a PLACE, and what stands where in it."""
 
 from storeways.errors import NoPlace, NoRoutine
-from storeways.faces import is_address
+from storeways.faces import face, is_address
 from storeways.kinds import has_rising_firsts, is_number, is_objects, is_operand, is_pair, is_word
 
 SIGNS = ("+", "-", "*", "<")
@@ -180,6 +180,11 @@ def is_place_of(code, word, thing):
 def places_with(code, word):
     """The PLACES of CODE at which ROWS or ENDS of this word stand, rising."""
     return [place for place in places_in(code) if row_at(code, place)[0] == word]
+
+
+def loads_of(code, cell):
+    """The PLACES of the "load" ROWS of CODE whose FACES have this CELL, rising."""
+    return [place for place in places_with(code, "load") if cell in face(code, row_at(code, place)[2])]
 
 
 def backs_of(code, name):

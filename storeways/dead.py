@@ -1,18 +1,18 @@
 """Which "store" ROWS are DEAD: read on no FREE WAY, and seen at no end."""
 
 from storeways.beginnings import entering
-from storeways.codes import backs_of, places_with, row_at
-from storeways.faces import cells_in, face
+from storeways.codes import backs_of, loads_of, places_with
+from storeways.faces import cells_in, is_shown
 from storeways.passing import standing
 from storeways.sources import read_by
 
 
-def live_by(code, cell, is_shown):
+def live_by(code, cell, shown):
     """All sources of a CELL that are read by some "load", or, where it is SHOWN, are there where main ENDS."""
     points = standing(code, cell)
     begun = entering(code, points)
-    seers = [place for place in places_with(code, "load") if cell in face(code, row_at(code, place)[2])]
-    if is_shown:
+    seers = loads_of(code, cell)
+    if is_shown(shown, cell):
         seers.extend(backs_of(code, "main"))
     return [source for place in seers for source in read_by(place, points, begun)]
 
@@ -21,6 +21,6 @@ def dead(code, shown=None):
     """The PLACES of all DEAD "store" ROWS, rising; shown are the CELLS that are SHOWN, None like all."""
     live = {}
     for cell in cells_in(code):
-        for source in live_by(code, cell, shown is None or cell in shown):
+        for source in live_by(code, cell, shown):
             live[source] = True
     return tuple([place for place in places_with(code, "store") if place not in live])

@@ -15,6 +15,11 @@ def is_cell(code, thing):
     return 0 <= thing[1] < dict(code[0]).get(thing[0], 0)
 
 
+def is_shown(shown, cell):
+    """Whether a CELL is among those SHOWN, None like all."""
+    return shown is None or cell in shown
+
+
 def can_be_within(operand, many):
     """Whether an OPERAND may stand where one of so many is picked: a NAME always may."""
     return is_word(operand) or 0 <= operand < many

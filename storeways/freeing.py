@@ -1,14 +1,16 @@
 """FREE WAYS sought: how one goes on, which PLACES are MET, and shortest ways to them.
 
-A hop is (place, choice, routine): a STEP, and, where routine is a WORD, a whole way through that routine behind it.
+Ways are sought from state to state, (place, stands): stands is True as long as the last "store" to a CELL is that of
+the source that is sought, for None as long as there is none. A hop is (state, step, through): the STEP from that state,
+and, where through isn't None, a whole way through a routine behind it, (routine, stands ahead of it, stands behind it).
 So a way through a routine is known once, however often and deep it is called.
 """
 
-from storeways.codes import END_FORMS, address_in, backs_of, is_place, routines_of, row_at
+from storeways.codes import address_in, backs_of, is_place, routines_of, row_at
 from storeways.errors import NoPlace
 from storeways.faces import face
 from storeways.graphs import goals
-from storeways.waychecker import FIRST, state_of
+from storeways.waychecker import FIRST, led_to, state_of
 
 
 def choices_of(code, row):
@@ -27,102 +29,141 @@ def goes_on(code, thing):
     return tuple([(place, choice) for choice in choices_of(code, row_at(code, place))])
 
 
-def hops_of_call(place, routine, through, enters):
-    """What hops_at tells of a "call"."""
-    name, block, at = place
-    found = []
-    if routine in through:
-        found.append(((name, block, at + 1), 1 + through[routine], (place, None, routine)))
-    if enters:
-        found.append(((routine, 0, 0), 1, (place, None, None)))
-    return found
-
-
-def hops_at(code, place, through, enters):
-    """The hops from a PLACE, each as (PLACE to which it leads, how many STEPS it has, hop).
-
-    through has the lengths of ways through routines; where enters is True, calls may stay open, too.
-    """
-    name, block, at = place
-    row = row_at(code, place)
-    if row[0] == "call":
-        return hops_of_call(place, row[1], through, enters)
-    if row[0] in END_FORMS:
-        return [((name, goal, 0), 1, (place, goal if row[0] == "if" else None, None)) for goal in goals(row)]
-    return [((name, block, at + 1), 1, (place, choices_of(code, row)[0], None))]
-
-
-def nearest_by_hops(code, first, through, enters):
-    """Of each PLACE to which hops lead from the first one: how many STEPS lead there, at least, and the last hop."""
-    found = {}
-    waiting = {first: (0, None)}
-    while waiting:
-        place = min(waiting, key=lambda other: waiting[other][0])
-        found[place] = waiting.pop(place)
-        for goal, many, hop in hops_at(code, place, through, enters):
-            length = found[place][0] + many
-            if goal not in found and (goal not in waiting or length < waiting[goal][0]):
-                waiting[goal] = (length, hop)
-    return found
-
-
-def nearest_back(code, name, through):
-    """What nearest_by_hops finds within a routine, and its "back" PLACE with the fewest STEPS, None without one."""
-    found = nearest_by_hops(code, (name, 0, 0), through, False)
-    lengths = [(found[place][0], place) for place in backs_of(code, name) if place in found]
-    return (found, min(lengths)[1] if lengths else None)
-
-
-def lengths_through(code):
-    """Of each routine that comes back, how many STEPS a shortest way through it has, its "back" too."""
-    through = {}
-    while True:
-        newer = {}
-        for name in routines_of(code):
-            found, back = nearest_back(code, name, through)
-            if back is not None:
-                newer[name] = found[back][0] + 1
-        # Each round knows ways with calls one deeper in one another, and a shortest one has no routine within itself.
-        if newer == through:
-            return through
-        through = newer
-
-
-def hops_to(found, place):
-    """The hops to a PLACE, from the last one of each back to the first one."""
+def hops_to(found, state):
+    """The hops to a state, from the last one of each back to the first one."""
     hops = []
-    hop = found[place][1]
+    hop = found[state][1]
     while hop is not None:
         hops.append(hop)
         hop = found[hop[0]][1]
     return hops
 
 
-def spelled(code, hops, through):
-    """The way of hops that are told from the last one on: each STEP of it, also those through routines."""
-    known = {}
-    way = []
-    todo = list(hops)
-    while todo:
-        place, choice, routine = todo.pop()
-        way.append((place, choice))
-        if routine is not None:
-            if routine not in known:
-                found, back = nearest_back(code, routine, through)
-                known[routine] = [(back, None, None), *hops_to(found, back)]
-            todo.extend(known[routine])
-    return tuple(way)
+class Search:
+    """Shortest FREE WAYS to PLACES of CODE, by whether the last "store" to the CELL is that of the source.
+
+    Where the CELL is None no "store" is one to it, so ways are sought by their PLACES alone. lengths has how many
+    STEPS a shortest way through a routine has, its "back" too; found, of each state how many STEPS lead to it, at
+    least, and the last hop.
+    """
+
+    def __init__(self, code, cell, source):
+        self.code = code
+        self.cell = cell
+        self.source = source
+        self.lengths = {}
+        self.learn_lengths()
+        self.found = self.nearest_by_hops((FIRST, source is None), True)
+
+    def stands_behind(self, state, row, choice):
+        """Whether the source stands in the CELL behind a ROW or an END with this choice."""
+        place, stands = state
+        return place == self.source if row[0] == "store" and choice == self.cell else stands
+
+    def hops_of_call(self, state, routine, enters):
+        """What hops_at tells of a "call"."""
+        place, stands = state
+        name, block, at = place
+        found = []
+        for behind in (True, False):
+            through = (routine, stands, behind)
+            if through in self.lengths:
+                goal = ((name, block, at + 1), behind)
+                found.append((goal, 1 + self.lengths[through], (state, (place, None), through)))
+        if enters:
+            found.append((((routine, 0, 0), stands), 1, (state, (place, None), None)))
+        return found
+
+    def hops_at(self, state, enters):
+        """The hops from a state, each as (state to which it leads, how many STEPS it has, hop).
+
+        Where enters is True, calls may stay open, too.
+        """
+        place, stands = state
+        row = row_at(self.code, place)
+        if row[0] == "call":
+            return self.hops_of_call(state, row[1], enters)
+        found = []
+        if row[0] == "back":
+            return found
+        for choice in choices_of(self.code, row):
+            goal = (led_to(place, row, choice, []), self.stands_behind(state, row, choice))
+            found.append((goal, 1, (state, (place, choice), None)))
+        return found
+
+    def nearest_by_hops(self, first, enters):
+        """Of each state to which hops lead from the first one how many STEPS lead there, at least, and the last hop."""
+        found = {}
+        waiting = {first: (0, None)}
+        while waiting:
+            state = min(waiting, key=lambda other: waiting[other][0])
+            found[state] = waiting.pop(state)
+            for goal, many, hop in self.hops_at(state, enters):
+                length = found[state][0] + many
+                if goal not in found and (goal not in waiting or length < waiting[goal][0]):
+                    waiting[goal] = (length, hop)
+        return found
+
+    def within(self, routine, ahead):
+        """What hops find within a routine, by whether the source stands in the CELL ahead of it."""
+        return self.nearest_by_hops(((routine, 0, 0), ahead), False)
+
+    def nearest_back(self, found, routine, behind):
+        """Of what hops find within a routine the state with the fewest STEPS at a "back" of it, None without one."""
+        states = [(place, behind) for place in backs_of(self.code, routine) if (place, behind) in found]
+        return min(states, key=lambda state: found[state][0]) if states else None
+
+    def learn_lengths(self):
+        """Come to know the lengths of ways through routines."""
+        truths = (True,) if self.cell is None else (True, False)
+        while True:
+            newer = {}
+            for routine, ahead in [(name, truth) for name in routines_of(self.code) for truth in truths]:
+                found = self.within(routine, ahead)
+                for behind in truths:
+                    back = self.nearest_back(found, routine, behind)
+                    if back is not None:
+                        newer[(routine, ahead, behind)] = found[back][0] + 1
+            # Each round knows ways with calls one deeper in one another; a shortest one has none like it within itself.
+            if newer == self.lengths:
+                return
+            self.lengths = newer
+
+    def hops_through(self, through):
+        """The hops of a shortest way through a routine, from the last one on, its "back"."""
+        routine, ahead, behind = through
+        found = self.within(routine, ahead)
+        back = self.nearest_back(found, routine, behind)
+        return [(back, (back[0], None), None), *hops_to(found, back)]
+
+    def spelled(self, hops):
+        """The way of hops that are told from the last one on: each STEP of it, also those through routines."""
+        known = {}
+        way = []
+        todo = list(hops)
+        while todo:
+            state, step, through = todo.pop()
+            way.append(step)
+            if through is not None:
+                if through not in known:
+                    known[through] = self.hops_through(through)
+                todo.extend(known[through])
+        return tuple(way)
+
+    def way_at(self, place):
+        """A shortest FREE WAY to a PLACE on which the source stands in the CELL there, None where there is none."""
+        state = (place, True)
+        return self.spelled(hops_to(self.found, state)) if state in self.found else None
 
 
 def met_places(code):
     """All MET PLACES of CODE, rising."""
-    return tuple(sorted(nearest_by_hops(code, FIRST, lengths_through(code), True)))
+    return tuple(sorted([place for place, stands in Search(code, None, None).found]))
 
 
 def way_to(code, place):
     """A shortest FREE WAY that leads to a MET PLACE."""
-    through = lengths_through(code)
-    found = nearest_by_hops(code, FIRST, through, True)
-    if not is_place(code, place) or place not in found:
+    way = Search(code, None, None).way_at(place) if is_place(code, place) else None
+    if way is None:
         raise NoPlace(place)
-    return spelled(code, hops_to(found, place), through)
+    return way

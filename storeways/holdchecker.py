@@ -1,9 +1,10 @@
 """HOLD TABLES looked at."""
 
-from storeways.codes import is_place, places_in, places_with, routines_of, row_at
+from storeways.codes import is_place, places_in, places_with, row_at
 from storeways.errors import NoPaper
 from storeways.holding import flows, holds_at
 from storeways.kinds import is_pair
+from storeways.tablechecker import look_at_kinds
 
 
 def is_point(code, place, thing):
@@ -13,18 +14,9 @@ def is_point(code, place, thing):
     return is_place(code, thing[0]) and thing[0] == place and all([isinstance(part, bool) for part in thing[1:]])
 
 
-def is_begin(name, thing):
-    """Whether any thing is the entry of this routine."""
+def is_begin(code, name, thing):
+    """Whether any thing is the entry of this routine of CODE."""
     return is_pair(thing) and thing[0] == name and isinstance(thing[1], bool)
-
-
-def look_at_entries(word, due, entries, fits):
-    """Refuses the first entry that doesn't fit to the one of those due, isn't due, or is lacking."""
-    for k, (one, entry) in enumerate(zip(due, entries)):
-        if not fits(one, entry):
-            raise NoPaper(word, k)
-    if len(entries) != len(due):
-        raise NoPaper(word, min(len(entries), len(due)))
 
 
 def is_first_as_told(points, place):
@@ -56,14 +48,10 @@ def is_call_as_told(code, points, begun, place):
 
 def lets_holds(code, name, cell, thing):
     """True, where any thing is a CLOSED HOLD TABLE of a NAME and a CELL."""
-    if not is_pair(thing) or not all([isinstance(part, tuple) for part in thing]):
-        raise NoPaper("shape", -1)
-    places = places_in(code)
-    look_at_entries("point", places, thing[0], lambda due, entry: is_point(code, due, entry))
-    look_at_entries("begin", routines_of(code), thing[1], is_begin)
+    look_at_kinds(code, thing, is_point, is_begin)
     points = {entry[0]: entry[1:] for entry in thing[0]}
     begun = {routine: truth for routine, truth in thing[1]}
-    for place in places:
+    for place in places_in(code):
         if not is_first_as_told(points, place):
             raise NoPaper("first", place)
         if not is_flow_as_told(code, name, cell, points, place):

@@ -4,6 +4,7 @@ import copy
 import random
 import unittest
 
+from storeways.codes import places_in, routines_of
 from storeways.errors import NoPaper
 
 MAIN = (
@@ -204,3 +205,9 @@ def busy_code(seed, most_blocks=4):
             (tuple([row() for _ in range(chance.choice((0, 1, 1, 2, 3)))]), busy_end(chance, number, many))
             for number in range(many)])))
     return (objects, tuple(routines))
+
+
+def fullest(code):
+    """The TABLE that has all that can be there."""
+    places = places_in(code)
+    return (tuple([(place, places, True) for place in places]), tuple([(name, (None, *places)) for name in routines_of(code)]))
