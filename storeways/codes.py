@@ -182,6 +182,19 @@ def places_with(code, word):
     return [place for place in places_in(code) if row_at(code, place)[0] == word]
 
 
+def sure_cell(code, word, thing):
+    """The one CELL of the FACE of a ROW of this word at any thing as its PLACE, None where there is no such one."""
+    if not is_place_of(code, word, thing):
+        return None
+    cells = face(code, address_in(row_at(code, thing)))
+    return cells[0] if len(cells) == 1 else None
+
+
+def is_new_name(code, thing):
+    """Whether any thing is a WORD that is no NAME of CODE."""
+    return is_word(thing) and thing not in names_in(code)
+
+
 def loads_of(code, cell):
     """The PLACES of the "load" ROWS of CODE whose FACES have this CELL, rising."""
     return [place for place in places_with(code, "load") if cell in face(code, row_at(code, place)[2])]

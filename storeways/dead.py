@@ -7,9 +7,8 @@ from storeways.passing import standing
 from storeways.sources import read_by
 
 
-def live_by(code, cell, shown):
+def live_by(code, cell, shown, points):
     """All sources of a CELL that are read by some "load", or, where it is SHOWN, are there where main ENDS."""
-    points = standing(code, cell)
     begun = entering(code, points)
     seers = loads_of(code, cell)
     if is_shown(shown, cell):
@@ -17,10 +16,15 @@ def live_by(code, cell, shown):
     return [source for place in seers for source in read_by(place, points, begun)]
 
 
-def dead(code, shown=None):
-    """The PLACES of all DEAD "store" ROWS, rising; shown are the CELLS that are SHOWN, None like all."""
+def dead_among(code, shown, points):
+    """The PLACES of all DEAD "store" ROWS, rising, by what STANDS at each PLACE, CELL by CELL."""
     live = {}
     for cell in cells_in(code):
-        for source in live_by(code, cell, shown):
+        for source in live_by(code, cell, shown, points[cell]):
             live[source] = True
     return tuple([place for place in places_with(code, "store") if place not in live])
+
+
+def dead(code, shown=None):
+    """The PLACES of all DEAD "store" ROWS, rising; shown are the CELLS that are SHOWN, None like all."""
+    return dead_among(code, shown, {cell: standing(code, cell) for cell in cells_in(code)})

@@ -46,11 +46,16 @@ def is_call_as_told(code, points, begun, place):
     return points[(called, 0, 0)][0] and (holds_at(points, begun, place) or not begun[called])
 
 
+def held_in(table):
+    """points and begun of a HOLD TABLE, as those are which holds_at looks at."""
+    points = {entry[0]: entry[1:] for entry in table[0]}
+    return (points, {routine: truth for routine, truth in table[1]})
+
+
 def lets_holds(code, name, cell, thing):
     """True, where any thing is a CLOSED HOLD TABLE of a NAME and a CELL."""
     look_at_kinds(code, thing, is_point, is_begin)
-    points = {entry[0]: entry[1:] for entry in thing[0]}
-    begun = {routine: truth for routine, truth in thing[1]}
+    points, begun = held_in(thing)
     for place in places_in(code):
         if not is_first_as_told(points, place):
             raise NoPaper("first", place)

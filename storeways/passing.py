@@ -42,11 +42,17 @@ def calls_by_routine(code):
     return calls
 
 
-def standing(code, cell):
-    """What STANDS in a CELL at each PLACE of CODE: the least by the steps from each to the next ones."""
-    points = {place: {} for place in places_in(code)}
+def standing_of(code, cell, names, known):
+    """What STANDS in a CELL at each PLACE, of these routines reckoned anew: the least by the steps from each one on.
+
+    known has what STANDS at the PLACES of other routines, of those that these call at least.
+    """
+    points = {place: known[place] for place in known}
+    for place in places_in(code):
+        if place[0] in names:
+            points[place] = {}
     calls = calls_by_routine(code)
-    todo = [(name, 0, 0) for name in routines_of(code)]
+    todo = [(name, 0, 0) for name in names]
     for place in todo:
         points[place][None] = True
     while todo:
@@ -59,8 +65,13 @@ def standing(code, cell):
                 todo.append(goal)
         # A "back" goes on to nothing in its own routine, but each "call" of this has more behind it now.
         if row_at(code, place) == ("back",):
-            todo.extend([call for call in calls[place[0]] if points[call]])
+            todo.extend([call for call in calls[place[0]] if call[0] in names and points[call]])
     return points
+
+
+def standing(code, cell):
+    """What STANDS in a CELL at each PLACE of CODE."""
+    return standing_of(code, cell, routines_of(code), {})
 
 
 def told_apart(stands):

@@ -20,11 +20,16 @@ def read_by(place, points, begun):
     return put_behind(points[place], entered) if entered else {}
 
 
-def sources(code, place, cell=None):
-    """The SOURCES of a "load" and a CELL, of all CELLS of its FACE together for None."""
+def sources_among(code, place, cells, points):
+    """The SOURCES of a "load" and these CELLS together, by what STANDS at each PLACE, CELL by CELL."""
     found = {}
-    for one in cells_asked(code, place, cell):
-        points = standing(code, one)
-        for source in read_by(place, points, entering(code, points)):
+    for cell in cells:
+        for source in read_by(place, points[cell], entering(code, points[cell])):
             found[source] = True
     return in_order(found)
+
+
+def sources(code, place, cell=None):
+    """The SOURCES of a "load" and a CELL, of all CELLS of its FACE together for None."""
+    cells = cells_asked(code, place, cell)
+    return sources_among(code, place, cells, {one: standing(code, one) for one in cells})

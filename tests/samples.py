@@ -211,3 +211,28 @@ def fullest(code):
     """The TABLE that has all that can be there."""
     places = places_in(code)
     return (tuple([(place, places, True) for place in places]), tuple([(name, (None, *places)) for name in routines_of(code)]))
+
+
+def sure_code(seed):
+    """CODE made by a seed whose reads and stores are SURE but for a few: much of it may be left out and carried."""
+    chance = random.Random(seed)
+    others = chance.choice(((), ("sub",), ("sub", "zub")))
+    addresses = ((("a",), 0, 0), (("a",), 0, 0), (("a",), 0, 1), (("c",), "p", "i"), (("a",), 0, "i"))
+
+    def row():
+        name, operand = chance.choice("xyi"), chance.choice((0, 1, 5, "x", "y", "i"))
+        word = chance.choice(("load", "load", "load", "store", "store", "set", "tell", "call"))
+        if word == "call" and others:
+            return ("call", chance.choice(others))
+        return {
+            "load": ("load", name, chance.choice(addresses)),
+            "store": ("store", chance.choice(addresses[:4] if chance.random() < 0.8 else addresses), operand),
+            "set": ("set", name, "+", operand, 1),
+        }.get(word, ("tell", operand))
+
+    routines = []
+    for name in sorted(("main", *others)):
+        many = chance.randrange(1, 4)
+        routines.append((name, tuple([
+            (tuple([row() for _ in range(chance.randrange(1, 5))]), busy_end(chance, number, many)) for number in range(many)])))
+    return ((("a", 2), ("c", 1)), tuple(routines))

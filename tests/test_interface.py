@@ -38,8 +38,21 @@ FUNCTIONS = {
     "holding": {"hold_table": "code name cell"},
     "holdchecker": {"lets_holds": "code name cell thing"},
     "turnings": {"turned": "code turning"},
+    "turnchecker": {"lets_turning": "code shown thing", "lets_chain": "code shown thing"},
+    "leaving": {"leave": "code place shown=None"},
+    "carrying": {"carry": "code place name=None"},
+    "rereading": {"reread": "code place"},
     "readings": {"read_row": "text line=0", "read_code": "text", "read_start": "text", "read_place": "text"},
     "lines": {"shown_row": "row", "shown_code": "code", "shown_start": "start", "shown_place": "place"},
+}
+
+# For each class, the file that defines it, and its own methods with their arguments.
+CLASSES = {
+    ("shop", "Shop"): {"__init__": "self code shown=None", "put_row": "self place row", "take_row": "self place", "change_row": "self place row",
+                       "take_code": "self code", "turn": "self turning", "back": "self times=1", "code_now": "self", "then": "self k", "edits": "self",
+                       "reckoned": "self", "summary_of": "self name cell", "sources_of": "self place cell=None", "dead_now": "self", "__len__": "self",
+                       "__str__": "self", "__eq__": "self other"},
+    ("desk", "Desk"): {"__init__": "self", "say": "self row"},
 }
 
 
@@ -59,6 +72,14 @@ class TestInterface(unittest.TestCase):
                 self.assertEqual(" ".join([str(argument) for argument in told]), FUNCTIONS[name][function], function)
                 for argument in told:
                     self.assertEqual(argument.kind, argument.POSITIONAL_OR_KEYWORD, function)
+
+    def test_classes(self):
+        for (name, called), methods in CLASSES.items():
+            one = getattr(importlib.import_module("storeways." + name), called)
+            self.assertTrue(inspect.isclass(one) and one.__module__ == "storeways." + name)
+            for method, arguments in methods.items():
+                told = inspect.signature(one.__dict__[method]).parameters.values()
+                self.assertEqual(" ".join([str(argument) for argument in told]), arguments, method)
 
 
 if __name__ == "__main__":
