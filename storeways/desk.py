@@ -48,22 +48,17 @@ def read_bars(text):
     return read_code(text.replace(BAR, "\n"))
 
 
-READERS = {
-    "code": read_bars,
-    "place": read_place,
-    "row": read_row,
-    "count": read_count,
-    "start": read_start,
-}
-
-
-def read_parts(form, parts):
-    """What parts of a row write, by what a form has due."""
-    things = []
-    for kind, part in zip(form, parts):
-        reader = READERS[kind]
-        things.append(reader(part))
-    return things
+def read_part(kind, text):
+    """What a text writes by the kind that is due."""
+    if kind == "code":
+        return read_bars(text)
+    if kind == "place":
+        return read_place(text)
+    if kind == "row":
+        return read_row(text)
+    if kind == "start":
+        return read_start(text)
+    return read_count(text)
 
 
 def read_line(row):
@@ -77,7 +72,7 @@ def read_line(row):
     if parts[0] != word or len(parts) != len(form) + 1:
         raise NoLine(row)
     try:
-        return (word, read_parts(form, parts[1:]))
+        return (word, [read_part(kind, part) for kind, part in zip(form, parts[1:])])
     except NoText:
         raise NoLine(row) from None
 

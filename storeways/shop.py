@@ -158,15 +158,13 @@ class Shop:
     def take_row(self, place):
         """Take a ROW out."""
         code = self.code_now()
-        if not is_place(code, place) or row_at(code, place)[0] in END_FORMS:
+        if row_at(code, place)[0] in END_FORMS:
             raise NoPlace(place)
         return self.do_edit("take", spliced(code, place, 1, ()))
 
     def change_row(self, place, row):
         """Exchange a ROW by another ROW, an END by another END."""
         code = self.code_now()
-        if not is_place(code, place):
-            raise NoPlace(place)
         at_end = row_at(code, place)[0] in END_FORMS
         if not (is_end(code, place[0], row) if at_end else is_row(code, row)):
             raise NoCode("row")

@@ -5,7 +5,6 @@ from storeways.deadchecker import lets_dead
 from storeways.errors import NoPaper
 from storeways.holdchecker import held_in, lets_holds
 from storeways.holding import holds_at
-from storeways.kinds import is_word
 from storeways.sources import read_by
 from storeways.tablechecker import begun_in, look_at_table, points_in
 from storeways.turnings import turned
@@ -51,7 +50,7 @@ def look_at_again(code, thing):
     """Refuses an "again" whose paper doesn't show it."""
     word, place, name, paper = thing
     cell = cell_carried(code, place)
-    if not is_word(name) or name not in names_in(code):
+    if name not in names_in(code):
         raise NoPaper("name", -1)
     lets_holds(code, name, cell, paper)
     points, begun = held_in(paper)

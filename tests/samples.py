@@ -24,6 +24,18 @@ OBJECTS = (("a", 3), ("b", 2), ("c", 1))
 CODE = (OBJECTS, (("main", MAIN), ("sub", SUB)))
 
 BACK = ("back",)
+A0 = (("a",), 0, 0)
+A1 = (("a",), 0, 1)
+ANY_A = (("a",), 0, "i")
+CELL = ("a", 0)
+STORE = ("store", A0, 7)
+PERHAPS = ("store", ANY_A, 7)
+LOAD = ("load", "x", A0)
+TELL = ("tell", 1)
+CALL = ("call", "sub")
+LEAF = (((), BACK),)
+NEVER = (((), ("go", 0)),)
+M = [("main", 0, k) for k in range(8)]
 LEAST = ((("a", 1),), (("main", (((), ("back",)),)),))
 
 # Things that are nothing but themselves: no look takes one of them for something of its kind.
@@ -90,6 +102,16 @@ class Case(unittest.TestCase):
                 function(*things)
             self.assertIs(caught.exception.__class__, NoPaper)
             self.same((caught.exception.word, caught.exception.at), (word, at))
+
+
+def store(address=A0):
+    """A "store" by an ADDRESS."""
+    return ("store", address, 7)
+
+
+def call(name="sub"):
+    """A "call" of a routine."""
+    return ("call", name)
 
 
 def block(*rows):

@@ -7,21 +7,10 @@ from storeways.codes import routines_of
 from storeways.errors import NoRoutine
 from storeways.faces import cells_in
 from storeways.freeing import met_places
-from tests.samples import BACK, CODE, LEAST, STRANGE, Case, block, busy_code, code_of, some_code
+from tests.samples import (
+    ANY_A, BACK, CELL, CODE, LEAF, LEAST, STRANGE, Case, block, busy_code, call, code_of, some_code, store,
+)
 from tests.tried import in_order, tried_begins
-
-A0 = (("a",), 0, 0)
-ANY_A = (("a",), 0, "i")
-CELL = ("a", 0)
-LEAF = (block(BACK),)
-
-
-def store(address=A0):
-    return ("store", address, 7)
-
-
-def call(name="sub"):
-    return ("call", name)
 
 
 class TestBegins(Case):

@@ -11,17 +11,12 @@ from storeways.sources import sources
 from storeways.tablechecker import lets_table
 from storeways.turnchecker import lets_turning
 from storeways.turnings import turned
-from tests.samples import BACK, CODE, STRANGE, Case, block, busy_code, code_of, some_code, sure_code
+from tests.samples import (
+    A0, A1, ANY_A, BACK, CELL, CODE, LOAD, M, PERHAPS, STORE, STRANGE, Case, block, busy_code, code_of, some_code,
+    sure_code,
+)
 
-A0 = (("a",), 0, 0)
-A1 = (("a",), 0, 1)
-ANY_A = (("a",), 0, "i")
-CELL = ("a", 0)
-STORE = ("store", A0, 7)
-PERHAPS = ("store", ANY_A, 7)
-LOAD = ("load", "x", A0)
 LETTERS = "abcdefghijklmnopqrstuvwxyz"
-M = [("main", 0, k) for k in range(8)]
 
 
 class TestCarry(Case):

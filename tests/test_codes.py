@@ -7,11 +7,10 @@ from storeways.codes import (blocks_of, is_code, is_end, is_place, is_row, names
 from storeways.errors import NoPlace, NoRoutine
 from storeways.faces import cells_in
 from storeways.operands import is_start
-from tests.samples import CODE, LEAST, MAIN, OBJECTS, STRANGE, SUB, Case, exchanged, with_main, with_row
+from tests.samples import BACK, CODE, LEAST, MAIN, OBJECTS, STRANGE, SUB, Case, exchanged, with_main, with_row
 
 SURE = (("a",), 0, 1)
 FREE = (("b", "a"), "p", "i")
-BACK = ("back",)
 
 NO_NAMES = (0, 1, True, None, "", "A", "abcdefghi", "a1", (), ("x",), ["x"])
 NO_OPERANDS = (True, False, None, "", "A", "abcdefghi", "+", (), (0,), ["x"], SURE)

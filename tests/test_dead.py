@@ -8,23 +8,10 @@ from storeways.dead import dead
 from storeways.faces import cells_in, face
 from storeways.freeing import goes_on
 from storeways.waychecker import lets_way, shows, state_of
-from tests.samples import BACK, CODE, LEAST, OBJECTS, Case, block, busy_code, code_of, some_code
+from tests.samples import (
+    A1, ANY_A, BACK, CELL, CODE, LEAST, LOAD, NEVER, OBJECTS, Case, block, busy_code, call, code_of, some_code, store,
+)
 from tests.tried import tried
-
-A0 = (("a",), 0, 0)
-A1 = (("a",), 0, 1)
-ANY_A = (("a",), 0, "i")
-LOAD = ("load", "x", A0)
-CELL = ("a", 0)
-NEVER = (block(("go", 0)),)
-
-
-def store(address=A0):
-    return ("store", address, 7)
-
-
-def call(name="sub"):
-    return ("call", name)
 
 
 def at(number, row, name="main"):

@@ -11,16 +11,12 @@ from storeways.errors import NoPlace
 from storeways.faces import cells_in, face
 from storeways.freeing import goes_on
 from storeways.tables import table_of
-from tests.samples import BACK, LEAST, STRANGE, Case, block, busy_code, code_of, exchanged, fullest, said
+from tests.samples import (
+    ANY_A, BACK, CELL, LEAST, LOAD, M, PERHAPS, STORE, STRANGE, Case, block, busy_code, code_of, exchanged, fullest,
+    said,
+)
 
-A0 = (("a",), 0, 0)
-ANY_A = (("a",), 0, "i")
-CELL = ("a", 0)
 OTHER = ("a", 1)
-STORE = ("store", A0, 7)
-PERHAPS = ("store", ANY_A, 7)
-LOAD = ("load", "x", A0)
-M = [("main", 0, k) for k in range(7)]
 
 # PLACES 0 to 4: a "store" of a CELL, a read, a "store" of any of three, another read, the END.
 ROWS = code_of(block(STORE, LOAD, PERHAPS, LOAD, BACK))

@@ -10,24 +10,10 @@ from storeways.deadpapers import live_or_dead
 from storeways.errors import NoPlace
 from storeways.faces import cells_in, face
 from storeways.freeing import met_places
-from tests.samples import BACK, CODE, LEAST, STRANGE, Case, block, busy_code, code_of, said, some_code
-
-A0 = (("a",), 0, 0)
-A1 = (("a",), 0, 1)
-ANY_A = (("a",), 0, "i")
-LOAD = ("load", "x", A0)
-CELL = ("a", 0)
-LEAF = (block(BACK),)
-NEVER = (block(("go", 0)),)
-M = [("main", 0, k) for k in range(8)]
-
-
-def store(address=A0):
-    return ("store", address, 7)
-
-
-def call(name="sub"):
-    return ("call", name)
+from tests.samples import (
+    A0, A1, ANY_A, BACK, CELL, CODE, LEAF, LEAST, LOAD, M, NEVER, STRANGE, Case, block, busy_code, call, code_of,
+    said, some_code, store,
+)
 
 
 class TestLiveOrDead(Case):

@@ -7,21 +7,11 @@ from storeways.errors import NoPlace
 from storeways.firsts import first_reads, first_way
 from storeways.sources import sources
 from storeways.waychecker import shows
-from tests.samples import BACK, CODE, LEAST, STRANGE, Case, block, busy_code, code_of, some_code
+from tests.samples import (
+    A0, A1, ANY_A, BACK, CELL, CODE, LEAST, LOAD, M, NEVER, STRANGE, Case, block, busy_code, code_of, some_code,
+    store,
+)
 from tests.tried import shown_by_ways
-
-A0 = (("a",), 0, 0)
-A1 = (("a",), 0, 1)
-ANY_A = (("a",), 0, "i")
-LOAD = ("load", "x", A0)
-CELL = ("a", 0)
-LEAF = (block(BACK),)
-NEVER = (block(("go", 0)),)
-M = [("main", 0, k) for k in range(8)]
-
-
-def store(address=A0):
-    return ("store", address, 7)
 
 
 class TestFirsts(Case):

@@ -9,11 +9,9 @@ from storeways.freeing import goes_on, met_places, way_to
 from storeways.running import trail
 from storeways.operands import worth
 from storeways.waychecker import lets_way, shows, state_of
-from tests.samples import CODE, LEAST, STRANGE, Case, block, code_of, some_code, some_start
+from tests.samples import BACK, CODE, LEAST, M, STRANGE, Case, block, code_of, some_code, some_start
 
-BACK = ("back",)
 A0, A1, A2, B0, B1, C0 = cells_in(CODE)
-M = [("main", 0, k) for k in range(8)]
 
 
 def lengths_by_trying(code, deepest=4):

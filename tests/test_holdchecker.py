@@ -8,16 +8,12 @@ from storeways.codes import places_in, routines_of
 from storeways.freeing import met_places
 from storeways.holdchecker import lets_holds
 from storeways.holding import hold_table
-from tests.samples import BACK, CODE, LEAST, STRANGE, Case, block, busy_code, code_of, exchanged, said, some_code
+from tests.samples import (
+    A0, BACK, CELL, CODE, LEAF, LEAST, LOAD, NEVER, STORE, STRANGE, TELL, Case, block, busy_code, code_of, exchanged,
+    said, some_code,
+)
 from tests.tried import tried_holds
 
-A0 = (("a",), 0, 0)
-CELL = ("a", 0)
-LOAD = ("load", "x", A0)
-STORE = ("store", A0, 7)
-TELL = ("tell", 1)
-LEAF = (block(BACK),)
-NEVER = (block(("go", 0)),)
 
 # Its PLACES are main's 0:0 to 0:3, then sub's 0:0 to 0:2.
 CALLS = code_of(block(LOAD, ("call", "sub"), STORE, BACK), sub=(block(TELL, LOAD, BACK),))

@@ -5,15 +5,11 @@ import unittest
 from storeways.codes import places_in, routines_of
 from storeways.freeing import met_places
 from storeways.holding import hold_table
-from tests.samples import BACK, CODE, LEAST, Case, block, busy_code, code_of, some_code
+from tests.samples import (
+    A0, ANY_A, BACK, CELL, CODE, LEAF, LEAST, LOAD, STORE, Case, block, busy_code, code_of, some_code,
+)
 from tests.tried import tried_holds, tried_keeps
 
-A0 = (("a",), 0, 0)
-ANY_A = (("a",), 0, "i")
-CELL = ("a", 0)
-LOAD = ("load", "x", A0)
-STORE = ("store", A0, 7)
-LEAF = (block(BACK),)
 # What is told of a PLACE: met, kept, found.
 KEPT = (True, True, False)
 BOTH = (True, True, True)

@@ -10,14 +10,9 @@ from storeways.faces import cells_in
 from storeways.leaving import leave
 from storeways.turnchecker import lets_turning
 from storeways.turnings import turned
-from tests.samples import BACK, CODE, STRANGE, Case, block, busy_code, code_of, some_code, sure_code
-
-A0 = (("a",), 0, 0)
-ANY_A = (("a",), 0, "i")
-CELL = ("a", 0)
-STORE = ("store", A0, 7)
-LOAD = ("load", "x", A0)
-M = [("main", 0, k) for k in range(8)]
+from tests.samples import (
+    A0, ANY_A, BACK, CELL, CODE, LOAD, M, STORE, STRANGE, Case, block, busy_code, code_of, some_code, sure_code,
+)
 
 
 class LeaveCase(Case):

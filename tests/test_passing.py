@@ -6,21 +6,14 @@ from storeways.codes import places_in, routines_of
 from storeways.errors import NoPlace, NoRoutine
 from storeways.faces import cells_in
 from storeways.passing import made_at, summary
-from tests.samples import BACK, CODE, LEAST, STRANGE, Case, block, busy_code, code_of, some_code
+from tests.samples import (
+    A0, A1, ANY_A, BACK, CELL, CODE, LEAST, LOAD, STRANGE, Case, block, busy_code, code_of, some_code, store,
+)
 from tests.tried import apart, tried_within
 
-A0 = (("a",), 0, 0)
-A1 = (("a",), 0, 1)
-ANY_A = (("a",), 0, "i")
 A_OR_B = (("a", "b"), "p", 0)
-CELL = ("a", 0)
-LOAD = ("load", "x", A0)
 NOTHING = ((), False)
 PASSES = ((), True)
-
-
-def store(address=A0):
-    return ("store", address, 7)
 
 
 def at(block_number, row, name="main"):

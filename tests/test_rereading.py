@@ -10,17 +10,12 @@ from storeways.holdchecker import lets_holds
 from storeways.rereading import reread
 from storeways.turnchecker import lets_turning
 from storeways.turnings import turned
-from tests.samples import BACK, CODE, STRANGE, Case, block, busy_code, code_of, some_code, sure_code
+from tests.samples import (
+    A0, A1, ANY_A, BACK, CELL, CODE, LOAD, M, STORE, STRANGE, Case, block, busy_code, code_of, some_code, sure_code,
+)
 from tests.tried import tried_holds
 
-A0 = (("a",), 0, 0)
-A1 = (("a",), 0, 1)
-ANY_A = (("a",), 0, "i")
-CELL = ("a", 0)
-STORE = ("store", A0, 7)
-LOAD = ("load", "x", A0)
 FIRST = ("load", "y", A0)
-M = [("main", 0, k) for k in range(8)]
 
 
 class TestReread(Case):

@@ -7,9 +7,8 @@ from storeways.codes import row_at
 from storeways.operands import is_start, worth
 from storeways.running import run, trail
 from storeways.waychecker import lets_way
-from tests.samples import CODE, LEAST, OBJECTS, Case, block, code_of, some_code, some_start
+from tests.samples import BACK, CODE, LEAST, OBJECTS, Case, block, code_of, some_code, some_start
 
-BACK = ("back",)
 A0, A1, A2, B0, B1, C0 = cells_in(CODE)
 ZEROS = tuple([(cell, 0) for cell in cells_in(CODE)])
 

@@ -2,6 +2,7 @@
 
 import random
 import unittest
+import unittest.mock
 
 from storeways.carrying import carry
 from storeways.codes import END_FORMS, is_code, places_in, places_with, routines_of, row_at
@@ -10,21 +11,16 @@ from storeways.errors import NoBack, NoCode, NoPaper, NoPlace, NoRoutine
 from storeways.faces import cells_in
 from storeways.leaving import leave
 from storeways.lines import shown_code
-from storeways.passing import summary
+from storeways.passing import standing_of, summary
 from storeways.rereading import reread
 from storeways.shop import Shop
 from storeways.sources import sources
 from storeways.turnings import turned
-from tests.samples import BACK, CODE, LEAST, OBJECTS, STRANGE, Case, block, busy_code, busy_end, code_of, some_code, sure_code
+from tests.samples import (
+    A0, A1, ANY_A, BACK, CELL, CODE, LEAST, LOAD, M, OBJECTS, STORE, STRANGE, TELL, Case, block, busy_code, busy_end,
+    call, code_of, some_code, sure_code,
+)
 
-A0 = (("a",), 0, 0)
-A1 = (("a",), 0, 1)
-ANY_A = (("a",), 0, "i")
-CELL = ("a", 0)
-STORE = ("store", A0, 7)
-LOAD = ("load", "x", A0)
-TELL = ("tell", 1)
-M = [("main", 0, k) for k in range(8)]
 S = [("sub", 0, k) for k in range(8)]
 Z = [("zub", 0, k) for k in range(8)]
 ODD_PLACES = (*STRANGE, ("main", 0, True), ("main", False, 0), ["main", 0, 0], ("main", 0), ("none", 0, 0), ("main", 9, 0), ("main", 0, -1), ("main", 0, 9), CELL, 0, "main")
@@ -35,10 +31,6 @@ CHAIN = code_of(block(("call", "sub"), LOAD, BACK), sub=(block(TELL, ("call", "z
 # sub and zub call one another, main and aub call sub, zub calls yub.
 RING = code_of(block(("call", "sub"), BACK), aub=(block(("call", "sub"), BACK),), sub=(block(("if", "x", 1, 2)), block(("call", "zub"), BACK), block(BACK)),
                yub=(block(TELL, BACK),), zub=(block(("call", "yub"), ("call", "sub"), BACK),))
-
-
-def call(name="sub"):
-    return ("call", name)
 
 
 def called_by(code, name):
@@ -574,6 +566,38 @@ class TestAlike(Case):
         self.same((one.edits(), one.reckoned()), (("put",), ("main", "sub", "zub")))
         one.back()
         self.same((one.code_now(), other.edits()), (CHAIN, ("take",)))
+
+
+class TestReckoning(ShopCase):
+    """What is told is what is done: no routine is reckoned anew but those that are told."""
+
+    def reckoning(self, deed, *things):
+        """What the deed tells, and the routines that were reckoned anew by it."""
+        anew = set()
+
+        def watched(code, cell, names, known):
+            anew.update(names)
+            return standing_of(code, cell, names, known)
+
+        with unittest.mock.patch("storeways.shop.standing_of", watched):
+            told = deed(*things)
+        return (told, tuple(sorted(anew)))
+
+    def test_only_what_is_told(self):
+        shop = Shop(RING)
+        for deed, *things in ((shop.put_row, M[0], TELL), (shop.put_row, ("sub", 2, 0), TELL), (shop.put_row, ("yub", 0, 0), STORE), (shop.change_row, M[0], TELL),
+                              (shop.take_row, M[0]), (shop.take_code, CHAIN), (shop.take_code, LEAST), (shop.take_code, LEAST)):
+            told, anew = self.reckoning(deed, *things)
+            self.same(anew, told)
+            self.tells(shop)
+
+    def test_nothing_by_back_and_by_asking(self):
+        shop = Shop(RING)
+        shop.put_row(("yub", 0, 0), STORE)
+        shop.take_code(CHAIN)
+        for deed in (shop.dead_now, lambda: shop.sources_of(M[1]), lambda: shop.summary_of("main", CELL), shop.back, shop.back):
+            self.same(self.reckoning(deed)[1], ())
+        self.tells(shop)
 
 
 class TestMany(ShopCase):

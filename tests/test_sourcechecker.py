@@ -11,15 +11,11 @@ from storeways.sourcechecker import lets_none, lets_source
 from storeways.sourcepapers import none_paper, source_paper
 from storeways.sources import sources
 from storeways.tables import table_of
-from tests.samples import BACK, LEAST, STRANGE, Case, block, busy_code, code_of, exchanged, fullest, said
+from tests.samples import (
+    ANY_A, BACK, CELL, LEAST, LOAD, M, PERHAPS, STORE, STRANGE, Case, block, busy_code, code_of, exchanged, fullest,
+    said,
+)
 
-A0 = (("a",), 0, 0)
-ANY_A = (("a",), 0, "i")
-CELL = ("a", 0)
-STORE = ("store", A0, 7)
-PERHAPS = ("store", ANY_A, 7)
-LOAD = ("load", "x", A0)
-M = [("main", 0, k) for k in range(7)]
 
 # PLACES 0 to 5: a "store" of a CELL, one of any of three, two reads, a third "store", the END.
 ROWS = code_of(block(STORE, PERHAPS, LOAD, ("load", "x", ANY_A), STORE, BACK))

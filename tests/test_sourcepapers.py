@@ -11,24 +11,10 @@ from storeways.sourcepapers import none_paper, source_paper
 from storeways.sources import sources
 from storeways.tables import table_of
 from storeways.waychecker import lets_way, shows
-from tests.samples import BACK, CODE, LEAST, STRANGE, Case, block, busy_code, code_of, said, some_code
-
-A0 = (("a",), 0, 0)
-A1 = (("a",), 0, 1)
-ANY_A = (("a",), 0, "i")
-LOAD = ("load", "x", A0)
-CELL = ("a", 0)
-LEAF = (block(BACK),)
-NEVER = (block(("go", 0)),)
-M = [("main", 0, k) for k in range(8)]
-
-
-def store(address=A0):
-    return ("store", address, 7)
-
-
-def call(name="sub"):
-    return ("call", name)
+from tests.samples import (
+    A0, A1, ANY_A, BACK, CELL, CODE, LEAF, LEAST, LOAD, M, NEVER, STRANGE, Case, block, busy_code, call, code_of,
+    said, some_code, store,
+)
 
 
 def many_codes():

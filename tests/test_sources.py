@@ -11,24 +11,13 @@ from storeways.passing import made_at
 from storeways.running import trail
 from storeways.sources import sources
 from storeways.waychecker import shows
-from tests.samples import BACK, CODE, LEAST, STRANGE, Case, block, busy_code, code_of, some_code, some_start
+from tests.samples import (
+    A0, A1, ANY_A, BACK, CELL, CODE, LEAF, LEAST, LOAD, STRANGE, Case, block, busy_code, call, code_of, some_code,
+    some_start, store,
+)
 from tests.tried import in_order, shown_by_ways, tried
 
-A0 = (("a",), 0, 0)
-A1 = (("a",), 0, 1)
-ANY_A = (("a",), 0, "i")
-LOAD = ("load", "x", A0)
-CELL = ("a", 0)
-LEAF = (block(BACK),)
 READER = (block(LOAD, BACK),)
-
-
-def store(address=A0):
-    return ("store", address, 7)
-
-
-def call(name="sub"):
-    return ("call", name)
 
 
 def loads(code):

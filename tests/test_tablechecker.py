@@ -9,20 +9,11 @@ from storeways.faces import cells_in, face
 from storeways.graphs import onwards
 from storeways.tablechecker import lets_table
 from storeways.tables import table_of
-from tests.samples import BACK, CODE, LEAST, STRANGE, Case, block, busy_code, code_of, exchanged, fullest, said, some_code
+from tests.samples import (
+    A0, A1, BACK, CALL, CELL, CODE, LEAF, LEAST, LOAD, M, NEVER, PERHAPS, STORE, STRANGE, TELL, Case, block,
+    busy_code, code_of, exchanged, fullest, said, some_code,
+)
 
-A0 = (("a",), 0, 0)
-A1 = (("a",), 0, 1)
-ANY_A = (("a",), 0, "i")
-CELL = ("a", 0)
-STORE = ("store", A0, 7)
-PERHAPS = ("store", ANY_A, 7)
-LOAD = ("load", "x", A0)
-TELL = ("tell", 1)
-CALL = ("call", "sub")
-LEAF = (block(BACK),)
-NEVER = (block(("go", 0)),)
-M = [("main", 0, k) for k in range(6)]
 S = [("sub", 0, k) for k in range(3)]
 
 # Its PLACES are main's 0:0 to 0:3, then sub's 0:0 and 0:1.

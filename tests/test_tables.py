@@ -7,11 +7,7 @@ from storeways.codes import places_in, routines_of
 from storeways.faces import cells_in
 from storeways.passing import made_at
 from storeways.tables import table_of
-from tests.samples import BACK, CODE, LEAST, Case, block, busy_code, code_of, some_code
-
-STORE = ("store", (("a",), 0, 0), 7)
-PERHAPS = ("store", (("a",), 0, "i"), 7)
-CELL = ("a", 0)
+from tests.samples import BACK, CELL, CODE, LEAST, PERHAPS, STORE, Case, block, busy_code, code_of, some_code
 
 
 class TestTables(Case):

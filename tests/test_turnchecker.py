@@ -11,18 +11,11 @@ from storeways.rereading import reread
 from storeways.tables import table_of
 from storeways.turnchecker import lets_chain, lets_turning
 from storeways.turnings import turned
-from tests.samples import BACK, CODE, LEAST, STRANGE, Case, block, code_of, exchanged, fullest
+from tests.samples import (
+    A0, A1, ANY_A, BACK, CALL, CELL, CODE, LEAF, LEAST, LOAD, M, PERHAPS, STORE, STRANGE, Case, block, code_of,
+    exchanged, fullest,
+)
 
-A0 = (("a",), 0, 0)
-A1 = (("a",), 0, 1)
-ANY_A = (("a",), 0, "i")
-CELL = ("a", 0)
-STORE = ("store", A0, 7)
-PERHAPS = ("store", ANY_A, 7)
-LOAD = ("load", "x", A0)
-CALL = ("call", "sub")
-LEAF = (block(BACK),)
-M = [("main", 0, k) for k in range(8)]
 # What is no PLACE of one CODE or another, or not of this ROW.
 ODD_PLACES = (*STRANGE, ("main", 0, True), ("main", False, 0), ["main", 0, 0], ("main", 0), ("none", 0, 0), ("main", 9, 0), ("main", 0, -1), CELL, 0, "main")
 

@@ -6,14 +6,14 @@ from storeways.codes import is_code, names_in, places_in, row_at
 from storeways.faces import can_fault
 from storeways.running import run
 from storeways.turnings import turned
-from tests.samples import CODE, MAIN, OBJECTS, STRANGE, SUB, Case, block, code_of, exchanged, some_code, some_start
+from tests.samples import (
+    BACK, CODE, M, MAIN, OBJECTS, STRANGE, SUB, Case, block, code_of, exchanged, some_code, some_start,
+)
 
-BACK = ("back",)
 SURE = (("a",), 0, 1)
 ONE_CELL = (("c",), "p", 0)
 FREE = (("a", "b"), 0, "i")
 PICKED = (("a", "b"), "p", 0)
-M = [("main", 0, k) for k in range(8)]
 
 
 class TurnCase(Case):

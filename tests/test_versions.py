@@ -7,13 +7,11 @@ from storeways.dominance import frontier_again
 from storeways.errors import NoPlace
 from storeways.graphs import nexts, reached
 from storeways.versions import merged_blocks, parts_of, version_at, versions_of
-from tests.samples import BACK, CODE, LEAST, STRANGE, Case, block, busy_code, code_of, some_code
+from tests.samples import (
+    BACK, CALL, CODE, LEAF, LEAST, STORE, STRANGE, TELL, Case, block, busy_code, code_of, some_code,
+)
 
-STORE = ("store", (("a",), 0, 0), 7)
-CALL = ("call", "sub")
-TELL = ("tell", 1)
 BEGIN = ("begin",)
-LEAF = (block(BACK),)
 
 # Two ways that meet, one of them with a "store".
 MEET = code_of(block(("if", "x", 1, 2)), block(TELL, STORE, ("go", 3)), block(TELL, ("go", 3)), block(TELL, BACK), sub=LEAF)

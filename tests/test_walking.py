@@ -9,26 +9,14 @@ from storeways.freeing import met_places
 from storeways.passing import made_at
 from storeways.sources import sources
 from storeways.walking import walked, walked_sources
-from tests.samples import BACK, CODE, LEAST, STRANGE, Case, block, busy_code, code_of, some_code
+from tests.samples import (
+    A1, ANY_A, BACK, CELL, CODE, LEAF, LEAST, LOAD, NEVER, STRANGE, Case, block, busy_code, call, code_of, some_code,
+    store,
+)
 from tests.tried import apart, in_order, tried, tried_within
 
-A0 = (("a",), 0, 0)
-A1 = (("a",), 0, 1)
-ANY_A = (("a",), 0, "i")
-LOAD = ("load", "x", A0)
-CELL = ("a", 0)
-LEAF = (block(BACK),)
 READER = (block(LOAD, BACK),)
-NEVER = (block(("go", 0)),)
 PASSES = ((), True)
-
-
-def store(address=A0):
-    return ("store", address, 7)
-
-
-def call(name="sub"):
-    return ("call", name)
 
 
 def at(number, row, name="main"):

@@ -8,9 +8,8 @@ from storeways.faces import cells_in
 from storeways.freeing import goes_on
 from storeways.running import trail
 from storeways.waychecker import lets_way, shows, state_of
-from tests.samples import CODE, LEAST, STRANGE, Case, block, code_of, exchanged, some_code, some_start
+from tests.samples import BACK, CODE, LEAST, M, STRANGE, Case, block, code_of, exchanged, some_code, some_start
 
-BACK = ("back",)
 A0, A1, A2, B0, B1, C0 = cells_in(CODE)
 LOOKS = (lets_way, state_of, shows, goes_on)
 
@@ -22,7 +21,6 @@ ALL = code_of(
     block(("load", "x", (("a", "b"), "p", "i")), BACK),
     sub=(block(("store", (("c",), "i", "i"), 1), BACK),),
 )
-M = [("main", 0, k) for k in range(8)]
 WAY = ((M[0], A2), (M[1], B1), (M[2], C0), (M[3], None), (M[4], None), (M[5], None), (M[6], None),
        (("sub", 0, 0), C0), (("sub", 0, 1), None), (M[7], 1), (("main", 1, 0), None), (("main", 2, 0), B1), (("main", 2, 1), None))
 
