@@ -36,7 +36,7 @@ def come_to(code, name):
 
 
 def rings(code):
-    """The RINGS of CODE, those called ahead of those that call them: a "call" that leads out comes to fewer."""
+    """The RINGS of CODE, those called ahead of those that call them, as what one calls can come to fewer routines."""
     after = {name: come_to(code, name) for name in routines_of(code)}
     found = []
     for name in sorted(after, key=lambda one: len(after[one])):

@@ -129,6 +129,30 @@ class TestLanguage(unittest.TestCase):
                 if isinstance(sign, (ast.Is, ast.IsNot)):
                     self.assertTrue(isinstance(other, ast.Constant), where)
 
+    def test_what_stands_at_module_level_is_plain(self):
+        for name, tree in self.trees.items():
+            own = set()
+            for node in tree.body:
+                if isinstance(node, ast.FunctionDef):
+                    own.add(node.name)
+                for part in ast.walk(node) if isinstance(node, ast.Assign) else ():
+                    self.assertNotIsInstance(part, (ast.Call, ast.Lambda, ast.ListComp, ast.DictComp), f"{name}.py:{node.lineno}")
+                    if isinstance(part, ast.Name) and isinstance(part.ctx, ast.Load):
+                        self.assertIn(part.id, own, f"{name}.py:{node.lineno}")
+
+    def test_len_and_str_return_by_their_builtins(self):
+        for where, node in self.nodes(ast.FunctionDef):
+            if node.name in ("__len__", "__str__"):
+                self.assertIsInstance(node.body[-1], ast.Return, where)
+                for part in ast.walk(node):
+                    if isinstance(part, ast.Return):
+                        self.assertEqual(part.value.func.id, node.name.strip("_"), where)
+
+    def test_errors_of_python_are_not_caught(self):
+        own = {node.name for where, node in self.nodes(ast.ClassDef)}
+        for where, node in self.nodes(ast.ExceptHandler):
+            self.assertIn(node.type.id, own, where)
+
     def test_lists_for_what_looks_at_all(self):
         for where, node in self.nodes(ast.Call):
             if isinstance(node.func, ast.Name) and node.func.id in LAZY:
