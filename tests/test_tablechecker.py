@@ -317,7 +317,7 @@ class TestLetsTable(Case):
             least = table_of(code, CELL)
             for entries in itertools.product(itertools.product(subsets, (True, False)), repeat=len(places)):
                 points = tuple([(place, *entry) for place, entry in zip(places, entries, strict=True)])
-                for told in ((), (None,), (None, *places), places):
+                for told in [*subsets, *[(None, *made) for made in subsets]]:
                     table = (points, (("main", told),))
                     got = said(lets_table, code, CELL, table)
                     self.assertEqual(got, refusal(code, CELL, table))
